@@ -1,0 +1,88 @@
+// Package flowkeeper: flows of tasks that are handed out, tried again, timed, and kept through any fall of a disk: see DOC.md.
+package flowkeeper
+
+import (
+	"flowkeeper/api"
+	"flowkeeper/flows"
+)
+
+// Encode: the bytes of a flow (P3, P4).
+func Encode(f api.Flow) ([]byte, error) { return flows.Encode(f) }
+
+// Decode: the flow of bytes (P5).
+func Decode(b []byte) (api.Flow, error) { return flows.Decode(b) }
+
+// Rest: how long to wait behind the k-th failure (P6).
+func Rest(n api.Node, k int, seed uint64) int { return flows.Rest(n, k, seed) }
+
+// Bound: ticks behind which a run has ended (P7).
+func Bound(f api.Flow, gap int) int { return flows.Bound(f, gap) }
+
+// Wheel is timers.
+type Wheel struct{}
+
+// NewWheel makes a wheel without timers, at that time (P8).
+func NewWheel(now uint64) *Wheel { return nil }
+
+// Set: a timer is due at that time (P9).
+func (w *Wheel) Set(id int, at uint64) error { return nil }
+
+// Cancel: it is due no more (P9).
+func (w *Wheel) Cancel(id int) error { return nil }
+
+// Next: when the first is due (P10).
+func (w *Wheel) Next() (uint64, bool) { return 0, false }
+
+// Advance: so many ticks pass: what was due in them (P10).
+func (w *Wheel) Advance(ticks uint64) []api.Fired { return nil }
+
+// Engine is runs of flows, and a queue of what is ready.
+type Engine struct{}
+
+// Open opens the engine of a disk (P11, P25).
+func Open(d api.Disk) (*Engine, error) { return nil, nil }
+
+// Submit: a run more (P12).
+func (e *Engine) Submit(b []byte) (uint64, error) { return 0, nil }
+
+// Poll: the first that is ready is handed out (P14).
+func (e *Engine) Poll() (api.Task, bool, error) { return api.Task{}, false, nil }
+
+// Beat: a sign of life (P15).
+func (e *Engine) Beat(token uint64) error { return nil }
+
+// Complete: a task is done (P16).
+func (e *Engine) Complete(token uint64) error { return nil }
+
+// Fail: a task failed (P17).
+func (e *Engine) Fail(token uint64) error { return nil }
+
+// Cancel: a run is given up (P18).
+func (e *Engine) Cancel(run uint64) error { return nil }
+
+// Seed: what is added to waits hangs on it (P17).
+func (e *Engine) Seed(n uint64) error { return nil }
+
+// Tick: so many ticks pass (P20).
+func (e *Engine) Tick(ticks uint64) error { return nil }
+
+// Query: a run (P22).
+func (e *Engine) Query(run uint64) (api.Info, error) { return api.Info{}, nil }
+
+// Clock: the time, and the seed (P22).
+func (e *Engine) Clock() (uint64, uint64) { return 0, 0 }
+
+// Runs walks through the runs that are known (P22).
+func (e *Engine) Runs() func(yield func(run uint64) bool) { return nil }
+
+// Timers: what is due, and when (P22).
+func (e *Engine) Timers() []api.Timer { return nil }
+
+// Queue: what is ready, in order (P22).
+func (e *Engine) Queue() []api.Task { return nil }
+
+// Snapshot writes anew what is durable (P27).
+func (e *Engine) Snapshot() error { return nil }
+
+// Serve does commands as they come, each with an answer, until there are no more (P28).
+func Serve(e *Engine, commands <-chan api.Command) <-chan api.Answer { return nil }
