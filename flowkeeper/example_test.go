@@ -28,3 +28,19 @@ func Example() {
 	// 6 49
 	// true flowkeeper: error 4 at 0
 }
+
+// What README.md shows of wheels.
+func ExampleWheel() {
+	w := flowkeeper.NewWheel(0)
+	fmt.Println(w.Set(1, 70), w.Set(2, 5), w.Set(3, 70))
+	fmt.Println(w.Cancel(4) == api.ErrTimer)
+	fmt.Println(w.Next())
+	fmt.Println(w.Advance(69))
+	fmt.Println(w.Advance(1))
+	// Output:
+	// <nil> <nil> <nil>
+	// true
+	// 5 true
+	// [{2 5}]
+	// [{1 70} {3 70}]
+}

@@ -4,6 +4,7 @@ package flowkeeper
 import (
 	"flowkeeper/api"
 	"flowkeeper/flows"
+	"flowkeeper/wheels"
 )
 
 // Encode: the bytes of a flow (P3, P4).
@@ -18,23 +19,47 @@ func Rest(n api.Node, k int, seed uint64) int { return flows.Rest(n, k, seed) }
 // Bound: ticks behind which a run has ended (P7).
 func Bound(f api.Flow, gap int) int { return flows.Bound(f, gap) }
 
-// Wheel is timers.
-type Wheel struct{}
+// Wheel is timers. A nil one has none, and no room for any.
+type Wheel struct{ timers wheels.Wheel[int] }
 
 // NewWheel makes a wheel without timers, at that time (P8).
-func NewWheel(now uint64) *Wheel { return nil }
+func NewWheel(now uint64) *Wheel { return &Wheel{timers: wheels.New[int](now)} }
 
 // Set: a timer is due at that time (P9).
-func (w *Wheel) Set(id int, at uint64) error { return nil }
+func (w *Wheel) Set(id int, at uint64) error {
+	if w == nil {
+		return api.ErrMany
+	}
+	return w.timers.Set(id, at)
+}
 
 // Cancel: it is due no more (P9).
-func (w *Wheel) Cancel(id int) error { return nil }
+func (w *Wheel) Cancel(id int) error {
+	if w == nil {
+		return api.ErrTimer
+	}
+	return w.timers.Cancel(id)
+}
 
 // Next: when the first is due (P10).
-func (w *Wheel) Next() (uint64, bool) { return 0, false }
+func (w *Wheel) Next() (uint64, bool) {
+	if w == nil {
+		return 0, false
+	}
+	return w.timers.Next()
+}
 
 // Advance: so many ticks pass: what was due in them (P10).
-func (w *Wheel) Advance(ticks uint64) []api.Fired { return nil }
+func (w *Wheel) Advance(ticks uint64) []api.Fired {
+	if w == nil {
+		return nil
+	}
+	var came []api.Fired
+	w.timers.Advance(ticks, func(id int, at uint64) {
+		came = append(came, api.Fired{Id: id, At: at})
+	})
+	return came
+}
 
 // Engine is runs of flows, and a queue of what is ready.
 type Engine struct{}
