@@ -44,3 +44,46 @@ func ExampleWheel() {
 	// [{2 5}]
 	// [{1 70} {3 70}]
 }
+
+// What README.md shows of engines.
+func ExampleEngine() {
+	b, _ := flowkeeper.Encode(api.Flow{Deadline: 100, Nodes: []api.Node{
+		{Budget: 2, Close: 9, Base: 3, Cap: 9},
+		{Budget: 1, Close: 9, Base: 1, Cap: 1, After: []int{0}},
+	}})
+	e, err := flowkeeper.Open(&files{all: map[string][]byte{}})
+	fmt.Println(e != nil, err)
+	run, err := e.Submit(b)
+	fmt.Println(run, err)
+	task, ok, err := e.Poll()
+	fmt.Println(task, ok, err)
+	fmt.Println(e.Beat(task.Token), e.Fail(task.Token))
+	fmt.Println(e.Timers())
+	fmt.Println(e.Tick(3))
+	task, ok, err = e.Poll()
+	fmt.Println(task, ok, err)
+	fmt.Println(e.Complete(task.Token))
+	fmt.Println(e.Queue())
+	fmt.Println(e.Query(run))
+	fmt.Println(e.Cancel(run))
+	for run := range e.Runs() {
+		fmt.Println(e.Query(run))
+	}
+	fmt.Println(e.Seed(6))
+	fmt.Println(e.Clock())
+	// Output:
+	// true <nil>
+	// 1 <nil>
+	// {1 0 1 1} true <nil>
+	// <nil> <nil>
+	// [{1 0 3} {1 -1 100}]
+	// <nil>
+	// {1 0 2 2} true <nil>
+	// <nil>
+	// [{1 1 1 0}]
+	// {1 1 [5 2] [2 0]} <nil>
+	// <nil>
+	// {1 4 [5 7] [2 0]} <nil>
+	// <nil>
+	// 3 6
+}

@@ -4,6 +4,7 @@ package flowkeeper
 import (
 	"flowkeeper/api"
 	"flowkeeper/flows"
+	"flowkeeper/runs"
 	"flowkeeper/wheels"
 )
 
@@ -61,50 +62,96 @@ func (w *Wheel) Advance(ticks uint64) []api.Fired {
 	return came
 }
 
-// Engine is runs of flows, and a queue of what is ready.
-type Engine struct{}
+// Engine is runs of flows, and a queue of what is ready. A nil one, and one that Open did not make, has no disk: it has no runs, and what would turn something answers ErrDown.
+type Engine struct {
+	disk api.Disk
+	runs runs.Keeper
+}
 
 // Open opens the engine of a disk (P11, P25).
-func Open(d api.Disk) (*Engine, error) { return nil, nil }
+func Open(d api.Disk) (*Engine, error) {
+	if d == nil {
+		return nil, api.ErrDown
+	}
+	if _, err := d.Names(); err != nil {
+		return nil, err
+	}
+	return &Engine{disk: d}, nil
+}
+
+// keeper: what the engine keeps; of a nil one that is nothing.
+func (e *Engine) keeper() *runs.Keeper {
+	if e == nil {
+		return &runs.Keeper{}
+	}
+	return &e.runs
+}
+
+// hasDisk: Open made the engine, so something may turn in it.
+func (e *Engine) hasDisk() bool { return e != nil && e.disk != nil }
 
 // Submit: a run more (P12).
-func (e *Engine) Submit(b []byte) (uint64, error) { return 0, nil }
+func (e *Engine) Submit(b []byte) (uint64, error) {
+	f, err := flows.Decode(b)
+	if err != nil {
+		return 0, err
+	}
+	if !e.hasDisk() {
+		return 0, api.ErrDown
+	}
+	return e.runs.Submit(f)
+}
 
 // Poll: the first that is ready is handed out (P14).
-func (e *Engine) Poll() (api.Task, bool, error) { return api.Task{}, false, nil }
+func (e *Engine) Poll() (api.Task, bool, error) {
+	task, ok := e.keeper().Poll()
+	return task, ok, nil
+}
 
 // Beat: a sign of life (P15).
-func (e *Engine) Beat(token uint64) error { return nil }
+func (e *Engine) Beat(token uint64) error { return e.keeper().Beat(token) }
 
 // Complete: a task is done (P16).
-func (e *Engine) Complete(token uint64) error { return nil }
+func (e *Engine) Complete(token uint64) error { return e.keeper().Complete(token) }
 
 // Fail: a task failed (P17).
-func (e *Engine) Fail(token uint64) error { return nil }
+func (e *Engine) Fail(token uint64) error { return e.keeper().Fail(token) }
 
 // Cancel: a run is given up (P18).
-func (e *Engine) Cancel(run uint64) error { return nil }
+func (e *Engine) Cancel(run uint64) error { return e.keeper().Cancel(run) }
 
 // Seed: what is added to waits hangs on it (P17).
-func (e *Engine) Seed(n uint64) error { return nil }
+func (e *Engine) Seed(n uint64) error {
+	if !e.hasDisk() {
+		return api.ErrDown
+	}
+	e.runs.Seed(n)
+	return nil
+}
 
 // Tick: so many ticks pass (P20).
-func (e *Engine) Tick(ticks uint64) error { return nil }
+func (e *Engine) Tick(ticks uint64) error {
+	if !e.hasDisk() {
+		return api.ErrDown
+	}
+	e.runs.Tick(ticks)
+	return nil
+}
 
 // Query: a run (P22).
-func (e *Engine) Query(run uint64) (api.Info, error) { return api.Info{}, nil }
+func (e *Engine) Query(run uint64) (api.Info, error) { return e.keeper().Query(run) }
 
 // Clock: the time, and the seed (P22).
-func (e *Engine) Clock() (uint64, uint64) { return 0, 0 }
+func (e *Engine) Clock() (uint64, uint64) { return e.keeper().Clock() }
 
 // Runs walks through the runs that are known (P22).
-func (e *Engine) Runs() func(yield func(run uint64) bool) { return nil }
+func (e *Engine) Runs() func(yield func(run uint64) bool) { return e.keeper().Runs() }
 
 // Timers: what is due, and when (P22).
-func (e *Engine) Timers() []api.Timer { return nil }
+func (e *Engine) Timers() []api.Timer { return e.keeper().Timers() }
 
 // Queue: what is ready, in order (P22).
-func (e *Engine) Queue() []api.Task { return nil }
+func (e *Engine) Queue() []api.Task { return e.keeper().Queue() }
 
 // Snapshot writes anew what is durable (P27).
 func (e *Engine) Snapshot() error { return nil }

@@ -2,6 +2,8 @@
 package wheels
 
 import (
+	"cmp"
+	"iter"
 	"math/bits"
 	"slices"
 
@@ -27,6 +29,9 @@ type Wheel[K comparable] struct {
 func New[K comparable](now uint64) Wheel[K] {
 	return Wheel[K]{now: min(now, api.MaxTime)}
 }
+
+// Now: the time of the wheel.
+func (w *Wheel[K]) Now() uint64 { return w.now }
 
 // Set: a timer is due at that time, or at the next tick, if that is later (P9).
 func (w *Wheel[K]) Set(key K, at uint64) error {
@@ -64,6 +69,28 @@ func (w *Wheel[K]) Next() (uint64, bool) {
 		next = min(next, w.due[key])
 	}
 	return next, true
+}
+
+// All walks through the timers in the order in which they come. They are not to be turned meanwhile.
+func (w *Wheel[K]) All() iter.Seq2[K, uint64] {
+	return func(yield func(key K, at uint64) bool) {
+		for level, word := range w.filled {
+			for ; word != 0; word &= word - 1 {
+				for _, key := range w.sorted(level, bits.TrailingZeros64(word)) {
+					if !yield(key, w.due[key]) {
+						return
+					}
+				}
+			}
+		}
+	}
+}
+
+// sorted: the timers of a slot in the order in which they come: those of the same time stay as they were set.
+func (w *Wheel[K]) sorted(level, slot int) []K {
+	list := slices.Clone(w.slots[level][slot])
+	slices.SortStableFunc(list, func(a, b K) int { return cmp.Compare(w.due[a], w.due[b]) })
+	return list
 }
 
 // Advance: so many ticks pass; come is told each timer that is due in them, when it is that time and the timer is gone (P10). It may set timers, and cancel others: what it sets comes too, if it is due up to the new time.

@@ -2,6 +2,7 @@ package wheels_test
 
 import (
 	"fmt"
+	"math/rand/v2"
 	"slices"
 	"testing"
 
@@ -106,4 +107,75 @@ func TestZero(t *testing.T) {
 	var w wheels.Wheel[string]
 	w.Advance(9, func(string, uint64) { t.Error("P8: a timer comes") })
 	check(t, &w, "x", "y", "z")
+}
+
+// fill sets timers, cancels some, and lets time pass, so that they stand at all levels.
+func fill(t *testing.T, r *rand.Rand) *wheels.Wheel[int] {
+	t.Helper()
+	start := r.Uint64() >> r.IntN(64)
+	w := wheels.New[int](start)
+	if now := w.Now(); now != min(start, api.MaxTime) {
+		t.Fatalf("Now = %d, want %d", now, start)
+	}
+	narrow := r.IntN(60)
+	for id := range 150 {
+		if err := w.Set(id, w.Now()+r.Uint64()>>(2+narrow+r.IntN(62-narrow))); err != nil {
+			t.Fatal(err)
+		}
+		switch r.IntN(9) {
+		case 0:
+			_ = w.Cancel(r.IntN(150)) // there may be none
+		case 1:
+			was, ticks := w.Now(), r.Uint64()>>(4+narrow+r.IntN(60-narrow))
+			w.Advance(ticks, func(int, uint64) {})
+			if now := w.Now(); now != min(was+ticks, api.MaxTime) {
+				t.Fatalf("Now = %d, %d ticks behind %d", now, ticks, was)
+			}
+		}
+	}
+	return &w
+}
+
+// P10: All tells the timers in the order in which they come then, and turns nothing.
+func TestAll(t *testing.T) {
+	seen := 0
+	for seed := range uint64(500) {
+		w := fill(t, rand.New(rand.NewPCG(seed, 47)))
+		var told [][2]uint64
+		for range 2 {
+			told = nil
+			for id, at := range w.All() {
+				told = append(told, [2]uint64{uint64(id), at})
+			}
+		}
+		for most := range len(told) {
+			count := 0
+			for range w.All() {
+				if count == most {
+					break
+				}
+				count++
+			}
+		}
+		if at, ok := w.Next(); ok != (len(told) > 0) || ok && at != told[0][1] {
+			t.Fatalf("Next = %d, %v of %v", at, ok, told)
+		}
+		var came [][2]uint64
+		w.Advance(api.MaxTime, func(id int, at uint64) {
+			if now := w.Now(); now != at {
+				t.Errorf("a timer of %d comes at %d", at, now)
+			}
+			came = append(came, [2]uint64{uint64(id), at})
+		})
+		if !slices.Equal(told, came) {
+			t.Fatalf("All tells %v, and then come %v", told, came)
+		}
+		for range w.All() {
+			t.Error("All tells a timer where there is none")
+		}
+		seen += len(came)
+	}
+	if seen < 10000 {
+		t.Errorf("only %d timers came", seen)
+	}
 }
