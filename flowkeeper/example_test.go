@@ -51,7 +51,8 @@ func ExampleEngine() {
 		{Budget: 2, Close: 9, Base: 3, Cap: 9},
 		{Budget: 1, Close: 9, Base: 1, Cap: 1, After: []int{0}},
 	}})
-	e, err := flowkeeper.Open(&files{all: map[string][]byte{}})
+	d := newShaky(nil)
+	e, err := flowkeeper.Open(d)
 	fmt.Println(e != nil, err)
 	run, err := e.Submit(b)
 	fmt.Println(run, err)
@@ -71,6 +72,13 @@ func ExampleEngine() {
 	}
 	fmt.Println(e.Seed(6))
 	fmt.Println(e.Clock())
+	d.fall(d.durable)
+	e, err = flowkeeper.Open(d)
+	fmt.Println(e != nil, err)
+	fmt.Println(e.Query(run))
+	d.expect(0, isFull)
+	fmt.Println(e.Tick(1) == api.ErrFull, e.Seed(7) == api.ErrFull)
+	fmt.Println(e.Clock())
 	// Output:
 	// true <nil>
 	// 1 <nil>
@@ -85,5 +93,9 @@ func ExampleEngine() {
 	// <nil>
 	// {1 4 [5 7] [2 0]} <nil>
 	// <nil>
+	// 3 6
+	// true <nil>
+	// {1 4 [5 7] [2 0]} <nil>
+	// true true
 	// 3 6
 }

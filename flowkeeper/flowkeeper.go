@@ -4,6 +4,7 @@ package flowkeeper
 import (
 	"flowkeeper/api"
 	"flowkeeper/flows"
+	"flowkeeper/logs"
 	"flowkeeper/runs"
 	"flowkeeper/wheels"
 )
@@ -64,19 +65,22 @@ func (w *Wheel) Advance(ticks uint64) []api.Fired {
 
 // Engine is runs of flows, and a queue of what is ready. A nil one, and one that Open did not make, has no disk: it has no runs, and what would turn something answers ErrDown.
 type Engine struct {
-	disk api.Disk
+	log  logs.Log // of the calls that turned something
 	runs runs.Keeper
 }
 
-// Open opens the engine of a disk (P11, P25).
+// Open opens the engine of a disk: the calls that are kept there are made once more (P11, P23).
 func Open(d api.Disk) (*Engine, error) {
 	if d == nil {
 		return nil, api.ErrDown
 	}
-	if _, err := d.Names(); err != nil {
+	e := &Engine{}
+	log, err := logs.Open(d, e.runs.Replay)
+	if err != nil {
 		return nil, err
 	}
-	return &Engine{disk: d}, nil
+	e.log = log
+	return e, nil
 }
 
 // keeper: what the engine keeps; of a nil one that is nothing.
@@ -87,8 +91,15 @@ func (e *Engine) keeper() *runs.Keeper {
 	return &e.runs
 }
 
-// hasDisk: Open made the engine, so something may turn in it.
-func (e *Engine) hasDisk() bool { return e != nil && e.disk != nil }
+// keeps: what makes a call durable, ahead of anything that it turns (P23, P24).
+func (e *Engine) keeps(c api.Command) func() error {
+	return func() error {
+		if e == nil {
+			return api.ErrDown
+		}
+		return e.log.Add(runs.Record(c))
+	}
+}
 
 // Submit: a run more (P12).
 func (e *Engine) Submit(b []byte) (uint64, error) {
@@ -96,46 +107,42 @@ func (e *Engine) Submit(b []byte) (uint64, error) {
 	if err != nil {
 		return 0, err
 	}
-	if !e.hasDisk() {
-		return 0, api.ErrDown
-	}
-	return e.runs.Submit(f)
+	return e.keeper().Submit(f, e.keeps(api.Command{Op: api.Submit, Data: string(b)}))
 }
 
 // Poll: the first that is ready is handed out (P14).
 func (e *Engine) Poll() (api.Task, bool, error) {
-	task, ok := e.keeper().Poll()
-	return task, ok, nil
+	return e.keeper().Poll(e.keeps(api.Command{Op: api.Poll}))
 }
 
 // Beat: a sign of life (P15).
-func (e *Engine) Beat(token uint64) error { return e.keeper().Beat(token) }
+func (e *Engine) Beat(token uint64) error {
+	return e.keeper().Beat(token, e.keeps(api.Command{Op: api.Beat, N: token}))
+}
 
 // Complete: a task is done (P16).
-func (e *Engine) Complete(token uint64) error { return e.keeper().Complete(token) }
+func (e *Engine) Complete(token uint64) error {
+	return e.keeper().Complete(token, e.keeps(api.Command{Op: api.Complete, N: token}))
+}
 
 // Fail: a task failed (P17).
-func (e *Engine) Fail(token uint64) error { return e.keeper().Fail(token) }
+func (e *Engine) Fail(token uint64) error {
+	return e.keeper().Fail(token, e.keeps(api.Command{Op: api.Fail, N: token}))
+}
 
 // Cancel: a run is given up (P18).
-func (e *Engine) Cancel(run uint64) error { return e.keeper().Cancel(run) }
+func (e *Engine) Cancel(run uint64) error {
+	return e.keeper().Cancel(run, e.keeps(api.Command{Op: api.Cancel, N: run}))
+}
 
 // Seed: what is added to waits hangs on it (P17).
 func (e *Engine) Seed(n uint64) error {
-	if !e.hasDisk() {
-		return api.ErrDown
-	}
-	e.runs.Seed(n)
-	return nil
+	return e.keeper().Seed(n, e.keeps(api.Command{Op: api.Seed, N: n}))
 }
 
 // Tick: so many ticks pass (P20).
 func (e *Engine) Tick(ticks uint64) error {
-	if !e.hasDisk() {
-		return api.ErrDown
-	}
-	e.runs.Tick(ticks)
-	return nil
+	return e.keeper().Tick(ticks, e.keeps(api.Command{Op: api.Tick, N: ticks}))
 }
 
 // Query: a run (P22).
@@ -153,8 +160,13 @@ func (e *Engine) Timers() []api.Timer { return e.keeper().Timers() }
 // Queue: what is ready, in order (P22).
 func (e *Engine) Queue() []api.Task { return e.keeper().Queue() }
 
-// Snapshot writes anew what is durable (P27).
-func (e *Engine) Snapshot() error { return nil }
+// Snapshot says what the disk said, if that was an error (P24). It writes nothing yet (P27).
+func (e *Engine) Snapshot() error {
+	if e == nil {
+		return api.ErrDown
+	}
+	return e.log.Err()
+}
 
 // Serve does commands as they come, each with an answer, until there are no more (P28).
 func Serve(e *Engine, commands <-chan api.Command) <-chan api.Answer { return nil }

@@ -353,6 +353,36 @@ func (b *both) ticks(r *rand.Rand, most int) uint64 {
 	return uint64(r.IntN(3 * most))
 }
 
+// anyCall makes a call of any kind, most often one that turns something.
+func (b *both) anyCall(r *rand.Rand, most int) {
+	b.t.Helper()
+	switch k := r.IntN(40); {
+	case k < 4:
+		f := tightFlow(r, most)
+		if r.IntN(9) == 0 {
+			f = anyFlow(r)
+		}
+		if r.IntN(20) == 0 {
+			f.Nodes[0].Budget = 6
+		}
+		b.submitAny(f)
+	case k < 16:
+		b.pollAny()
+	case k < 20:
+		b.turn(api.Beat, b.token(r))
+	case k < 28:
+		b.turn(api.Complete, b.token(r))
+	case k < 32:
+		b.turn(api.Fail, b.token(r))
+	case k < 33:
+		b.turn(api.Cancel, uint64(r.Int64N(int64(b.m.ids)+2)))
+	case k < 34:
+		b.turn(api.Seed, any64(r))
+	default:
+		b.tickAny(b.ticks(r, most))
+	}
+}
+
 // P11 to P20, P22: engines of all kinds, against lists.
 func TestEnginesOfAllKinds(t *testing.T) {
 	ends := map[int]int{}
@@ -365,33 +395,9 @@ func TestEnginesOfAllKinds(t *testing.T) {
 			b.tickAny(end - uint64(r.IntN(10*most)))
 		}
 		for range 250 {
-			switch k := r.IntN(40); {
-			case k < 4:
-				f := tightFlow(r, most)
-				if r.IntN(9) == 0 {
-					f = anyFlow(r)
-				}
-				if r.IntN(20) == 0 {
-					f.Nodes[0].Budget = 6
-				}
-				b.submitAny(f)
-				if len(b.m.runs) == 6 {
-					full++
-				}
-			case k < 16:
-				b.pollAny()
-			case k < 20:
-				b.turn(api.Beat, b.token(r))
-			case k < 28:
-				b.turn(api.Complete, b.token(r))
-			case k < 32:
-				b.turn(api.Fail, b.token(r))
-			case k < 33:
-				b.turn(api.Cancel, uint64(r.Int64N(int64(b.m.ids)+2)))
-			case k < 34:
-				b.turn(api.Seed, any64(r))
-			default:
-				b.tickAny(b.ticks(r, most))
+			b.anyCall(r, most)
+			if len(b.m.runs) == 6 {
+				full++
 			}
 			for _, x := range b.m.runs {
 				ends[x.state]++

@@ -399,7 +399,7 @@ func TestEnginesOfNobody(t *testing.T) {
 		if _, err := e.Submit(nil); told(t, err) != said(api.ErrFlow, 0) {
 			t.Errorf("P12: Submit of no bytes: %v", err)
 		}
-		d.bad(api.ErrDown, func() error { return e.Tick(1) }, func() error { return e.Seed(1) })
+		d.bad(api.ErrDown, func() error { return e.Tick(1) }, func() error { return e.Seed(1) }, e.Snapshot)
 		d.pollNone()
 		d.noToken(0, 1)
 		d.bad(api.ErrRun, func() error { return e.Cancel(1) }, func() error { _, err := e.Query(1); return err })

@@ -23,9 +23,12 @@ func (r *Ring[T]) Push(items ...T) {
 	}
 }
 
+// Empty: there is no item.
+func (r *Ring[T]) Empty() bool { return r.count == 0 }
+
 // Pop: the first item, which is gone then; false: there is none.
 func (r *Ring[T]) Pop() (item T, ok bool) {
-	if r.count == 0 {
+	if r.Empty() {
 		return item, false
 	}
 	place := r.room[r.first : r.first+1]
@@ -45,7 +48,7 @@ func (r *Ring[T]) Drop(gone func(item T) bool) {
 
 // List: all items in their order, in a list of its own; nil: there is none.
 func (r *Ring[T]) List() []T {
-	if r.count == 0 {
+	if r.Empty() {
 		return nil
 	}
 	list := make([]T, r.count)

@@ -18,6 +18,8 @@ type spot struct {
 }
 
 // Keeper: runs, and what of them is ready, at work and due. The zero one has no runs, and is at the time 0 with the seed 0 (P11).
+//
+// Whatever turns something asks keep first, which makes the call durable, when nothing else stands against it: if keep says an error, so does the call, and nothing turns (P24).
 type Keeper struct {
 	known     []*run             // the lowest id first
 	ended     rings.Ring[uint64] // the known ones that have ended, as they did
@@ -29,13 +31,16 @@ type Keeper struct {
 }
 
 // Submit: a run more, of a flow that is well and that nobody writes into any more (P12).
-func (k *Keeper) Submit(f api.Flow) (uint64, error) {
-	if len(k.known) >= api.MaxRuns {
-		oldest, ok := k.ended.Pop()
-		if !ok {
-			return 0, api.ErrMany
-		}
-		k.known = slices.DeleteFunc(k.known, func(r *run) bool { return r.id == oldest })
+func (k *Keeper) Submit(f api.Flow, keep func() error) (uint64, error) {
+	full := len(k.known) >= api.MaxRuns
+	if full && k.ended.Empty() {
+		return 0, api.ErrMany
+	}
+	if err := keep(); err != nil {
+		return 0, err
+	}
+	if full {
+		k.forget()
 	}
 	k.lastRun++
 	r := newRun(k.lastRun, f)
@@ -46,11 +51,14 @@ func (k *Keeper) Submit(f api.Flow) (uint64, error) {
 }
 
 // Poll: the first of the queue is handed out; false: there is none (P14).
-func (k *Keeper) Poll() (api.Task, bool) {
-	s, ok := k.queue.Pop()
-	if !ok {
-		return api.Task{}, false
+func (k *Keeper) Poll(keep func() error) (api.Task, bool, error) {
+	if k.queue.Empty() {
+		return api.Task{}, false, nil
 	}
+	if err := keep(); err != nil {
+		return api.Task{}, false, err
+	}
+	s, _ := k.queue.Pop()
 	n := &k.find(s.run).nodes[s.node]
 	k.lastToken++
 	n.state = api.Working
@@ -58,24 +66,24 @@ func (k *Keeper) Poll() (api.Task, bool) {
 	n.token = k.lastToken
 	k.set(timer{s, closing}, n.Close)
 	k.awaitSign(s, n.Beat)
-	return api.Task{Run: s.run, Node: s.node, Try: n.tries, Token: n.token}, true
+	return api.Task{Run: s.run, Node: s.node, Try: n.tries, Token: n.token}, true, nil
 }
 
 // Beat: a sign of life; the next one is awaited (P15).
-func (k *Keeper) Beat(token uint64) error {
-	r, i, ok := k.working(token)
-	if !ok {
-		return api.ErrToken
+func (k *Keeper) Beat(token uint64, keep func() error) error {
+	r, i, err := k.task(token, keep)
+	if err != nil {
+		return err
 	}
 	k.awaitSign(spot{r.id, i}, r.nodes[i].Beat)
 	return nil
 }
 
 // Complete: a task is done, which may be what others waited for (P16).
-func (k *Keeper) Complete(token uint64) error {
-	r, i, ok := k.working(token)
-	if !ok {
-		return api.ErrToken
+func (k *Keeper) Complete(token uint64, keep func() error) error {
+	r, i, err := k.task(token, keep)
+	if err != nil {
+		return err
 	}
 	k.stop(spot{r.id, i}, closing, sign)
 	r.nodes[i].state = api.Done
@@ -85,30 +93,45 @@ func (k *Keeper) Complete(token uint64) error {
 }
 
 // Fail: a task failed (P17).
-func (k *Keeper) Fail(token uint64) error {
-	r, i, ok := k.working(token)
-	if !ok {
-		return api.ErrToken
+func (k *Keeper) Fail(token uint64, keep func() error) error {
+	r, i, err := k.task(token, keep)
+	if err != nil {
+		return err
 	}
 	k.fail(r, i)
 	return nil
 }
 
 // Cancel: a run is given up (P18).
-func (k *Keeper) Cancel(id uint64) error {
+func (k *Keeper) Cancel(id uint64, keep func() error) error {
 	r := k.find(id)
 	if r == nil || r.state != api.Running {
 		return api.ErrRun
+	}
+	if err := keep(); err != nil {
+		return err
 	}
 	k.end(r, api.Cancelled)
 	return nil
 }
 
 // Seed: rests that are yet to begin hang on n (P17).
-func (k *Keeper) Seed(n uint64) { k.seed = n }
+func (k *Keeper) Seed(n uint64, keep func() error) error {
+	if err := keep(); err != nil {
+		return err
+	}
+	k.seed = n
+	return nil
+}
 
 // Tick: so many ticks pass, and what is due in them happens (P20).
-func (k *Keeper) Tick(ticks uint64) { k.timers.Advance(ticks, k.happen) }
+func (k *Keeper) Tick(ticks uint64, keep func() error) error {
+	if err := keep(); err != nil {
+		return err
+	}
+	k.timers.Advance(ticks, k.happen)
+	return nil
+}
 
 // Query: how far a run has come (P22).
 func (k *Keeper) Query(id uint64) (api.Info, error) {
@@ -164,6 +187,21 @@ func (k *Keeper) find(id uint64) *run {
 		}
 	}
 	return nil
+}
+
+// forget: the run that ended first is not known any more (P12).
+func (k *Keeper) forget() {
+	first, _ := k.ended.Pop()
+	k.known = slices.DeleteFunc(k.known, func(r *run) bool { return r.id == first })
+}
+
+// task: the node that is at work by that token; what is said of it is kept.
+func (k *Keeper) task(token uint64, keep func() error) (*run, int, error) {
+	r, i, ok := k.working(token)
+	if !ok {
+		return nil, 0, api.ErrToken
+	}
+	return r, i, keep()
 }
 
 // working: the node that is at work by that token.
