@@ -207,6 +207,7 @@ func TestBytesAheadOfFlow(t *testing.T) {
 
 // P1: a great many bytes end too.
 func TestManyBytes(t *testing.T) {
+	t.Parallel()
 	nodes := append([]byte{1, 0xff, 0xff, 0x7f}, bytes.Repeat([]byte{1, 1, 0, 1, 1, 0, 0}, 1<<21-1)...)
 	if _, err := flowkeeper.Decode(nodes); told(t, err) != "2 at -1" {
 		t.Errorf("P5: 2^21 - 1 nodes: %v", err)

@@ -12,7 +12,7 @@ import (
 	"flowkeeper/plain"
 )
 
-// script: calls of each kind, such that turn something, such that turn nothing that is seen, and such that are refused; runs end in each way, some are forgotten, and time ends.
+// script: calls of each kind, such that turn something, such that turn nothing that is seen, and such that are refused; runs end in each way, some are forgotten, and time ends. There are snapshots of nothing, one behind the other, and behind all.
 func script() []api.Command {
 	x := api.Node{Budget: 3, Close: 20, Beat: 7, Base: 4, Cap: 9, Jitter: 2}
 	y, z, once := x, x, x
@@ -27,6 +27,7 @@ func script() []api.Command {
 	submit := func(deadline int, nodes ...api.Node) {
 		l = append(l, submission(api.Flow{Deadline: deadline, Nodes: nodes}))
 	}
+	say(snapshot, 0)
 	say(api.Seed, 1<<40+5)
 	say(api.Poll, 0)
 	submit(300, x, x, y, z)
@@ -40,6 +41,7 @@ func script() []api.Command {
 	say(api.Beat, 3)
 	say(api.Complete, 3)
 	submit(90, x)
+	say(snapshot, 0, 0)
 	say(api.Cancel, 3, 3)
 	say(api.Fail, 4)
 	submit(17, x, z)
@@ -51,6 +53,7 @@ func script() []api.Command {
 	say(api.Poll, 0, 0)
 	say(api.Seed, 1<<40+5, 0)
 	say(api.Complete, 2, 6, 7)
+	say(snapshot, 0)
 	say(api.Tick, 9)
 	submit(100, x, x, x)
 	submit(100, x)
@@ -59,6 +62,7 @@ func script() []api.Command {
 	say(api.Tick, 4, 2, math.MaxUint64)
 	submit(100, x)
 	say(api.Poll, 0)
+	say(snapshot, 0)
 	say(api.Tick, 0)
 	return l
 }
@@ -144,8 +148,9 @@ func everyTrouble(t *testing.T, each func(l []api.Command, i int, d *shaky, e de
 	}
 }
 
-// P23 to P25: the disk gets into trouble at each call of it that writes, within each call of an engine.
+// P23 to P25, P27: the disk gets into trouble at each call of it that writes, within each call of an engine.
 func TestTroubleInCalls(t *testing.T) {
+	t.Parallel()
 	states := map[int]state{}
 	everyTrouble(t, func(l []api.Command, i int, d *shaky, e desk, x trouble) {
 		for _, k := range []int{i, i + 1} {
@@ -203,6 +208,7 @@ func (d desk) refuses(disk *shaky, calls []api.Command, want error) {
 
 // P24, P25: an engine that goes on behind an error: while the disk is down or well again, when it has fallen and come again, and when another engine is open over it.
 func TestGoesOnBehindError(t *testing.T) {
+	t.Parallel()
 	everyTrouble(t, func(l []api.Command, i int, d *shaky, e desk, x trouble) {
 		e.refuses(d, l[:i], x.says())
 		if i%3 > 0 { // the rest takes long
@@ -299,13 +305,15 @@ func falls(t *testing.T, d *shaky, depth int, wants ...state) {
 
 // P26: the disk gets into trouble within Open, several times, behind any trouble within any call.
 func TestTroubleInOpen(t *testing.T) {
+	t.Parallel()
 	everyTrouble(t, func(l []api.Command, i int, d *shaky, e desk, x trouble) {
 		wants := []state{{all: afresh(t, l[:i]).all()}, {all: afresh(t, l[:i+1]).all()}}
 		if !d.down {
 			falls(t, d, 2, wants...)
 		}
-		for k, files := range d.outcomes() {
-			if k%9 == 0 {
+		all := d.outcomes()
+		for k, files := range all {
+			if k%max(9, len(all)/9) == 0 { // more take long
 				falls(t, newShaky(files), 1, wants...)
 			}
 		}
@@ -317,7 +325,9 @@ func TestTroubleInOpen(t *testing.T) {
 func anyCommand(r *rand.Rand, last uint64) api.Command {
 	n := uint64(r.Int64N(5))
 	n = last - min(last, n)
-	switch r.IntN(16) {
+	switch r.IntN(18) {
+	case 16, 17:
+		return api.Command{Op: snapshot}
 	case 0, 1:
 		return submission(tightFlow(r, 5))
 	case 2:
@@ -381,8 +391,9 @@ func (f *life) settle() {
 	}
 }
 
-// P23 to P26: engines one behind the other over a disk that falls in all ways.
+// P23 to P27: engines one behind the other over a disk that falls in all ways.
 func TestLives(t *testing.T) {
+	t.Parallel()
 	longest := 0
 	for round := range uint64(150) {
 		r := rand.New(rand.NewPCG(round, 61))
@@ -399,6 +410,9 @@ func TestLives(t *testing.T) {
 				}
 				if turned {
 					f.made = append(f.made, c)
+				}
+				if n := size(f.d.durable); c.Op == snapshot && n > 4000 {
+					t.Fatalf("P27: round %d: behind a snapshot %d bytes are durable", round, n)
 				}
 				if r.IntN(9) == 0 { // the engine ends without a fault
 					f.settle()
@@ -420,8 +434,9 @@ func TestLives(t *testing.T) {
 	}
 }
 
-// P23: engines that are opened anew time and again, against lists.
+// P23, P27: engines that are written and opened anew time and again, against lists.
 func TestOpenedAnew(t *testing.T) {
+	t.Parallel()
 	for round := range uint64(120) {
 		r := rand.New(rand.NewPCG(round, 67))
 		d := newShaky(nil)
@@ -432,6 +447,9 @@ func TestOpenedAnew(t *testing.T) {
 		}
 		for range 150 {
 			b.anyCall(r, most)
+			if r.IntN(4) == 0 {
+				b.same("snapshot", b.e.Snapshot(), nil)
+			}
 			for r.IntN(3) == 0 {
 				l := d.outcomes()
 				d.fall(l[r.IntN(len(l))])
@@ -457,14 +475,17 @@ func everything(h *plain.Host) string {
 	return s
 }
 
-// P23 to P26: over the disk of package plain, which goes down or is full.
+// P23 to P27: over the disk of package plain, which goes down or is full.
 func TestTroubleOverPlain(t *testing.T) {
+	t.Parallel()
 	do := func(h *plain.Host, c api.Command, f plain.Fall) (e api.Errno) {
 		switch c.Op {
 		case api.Submit:
 			_, e, _ = h.Submit([]byte(c.Data), f)
 		case api.Poll:
 			_, _, e = h.Poll(f)
+		case snapshot:
+			e = h.Snapshot(f)
 		default:
 			e = h.Do(c.Op, c.N, f)
 		}
@@ -504,7 +525,7 @@ func TestTroubleOverPlain(t *testing.T) {
 		}
 	}
 	for i := range l {
-		for left := range 4 {
+		for left := range 5 {
 			for kept := range 4 {
 				for _, part := range []int{0, 1, 8, 15, 50, 99, 100} {
 					try(i, plain.Fall{Left: left, Full: -1, Kept: kept, Part: part}, plain.Fall{Left: left % 2, Full: -1, Kept: kept / 2, Part: part})
@@ -554,7 +575,7 @@ func TestBeginnings(t *testing.T) {
 // partly is a disk of which one kind of call says an error.
 type partly struct {
 	*shaky
-	read, sync, add error
+	read, sync, add, write, names, remove error
 }
 
 func (d partly) Read(name string) ([]byte, error) {
@@ -578,6 +599,27 @@ func (d partly) Sync() error {
 	return d.shaky.Sync()
 }
 
+func (d partly) Write(name string, data []byte) error {
+	if d.write != nil {
+		return d.write
+	}
+	return d.shaky.Write(name, data)
+}
+
+func (d partly) Names() ([]string, error) {
+	if d.names != nil {
+		return nil, d.names
+	}
+	return d.shaky.Names()
+}
+
+func (d partly) Remove(name string) error {
+	if d.remove != nil {
+		return d.remove
+	}
+	return d.shaky.Remove(name)
+}
+
 // P11, P24: an error of the disk is handed out as it is, whichever of its calls says it; a file that is not there is none, however the disk says so.
 func TestErrorsOfTheDisk(t *testing.T) {
 	for _, want := range []error{api.ErrDown, api.ErrFull, api.ErrNone, api.ErrToken, errSmoke, &api.Fault{Err: api.ErrFull, At: 3}} {
@@ -593,6 +635,21 @@ func TestErrorsOfTheDisk(t *testing.T) {
 		e.bad(want, func() error { _, err := e.e.Submit(written(row(1))); return err }, func() error { return e.e.Seed(1) })
 		late.sync = nil
 		e.bad(want, func() error { return e.e.Tick(1) })
+		for _, bad := range []partly{{sync: want}, {write: want}, {names: want}, {remove: want}} {
+			late := &partly{shaky: newShaky(nil)}
+			e := open(t, late)
+			e.well(e.e.Seed(3), e.e.Snapshot(), e.e.Seed(4))
+			bad.shaky = late.shaky
+			*late = bad
+			e.bad(want, e.e.Snapshot)
+			*late = partly{shaky: late.shaky}
+			asked := late.calls
+			e.bad(want, e.e.Snapshot, func() error { return e.e.Tick(1) })
+			if late.calls != asked {
+				t.Errorf("P24: behind an error of Snapshot the disk was asked %d times", late.calls-asked)
+			}
+			over(t, late.shaky, stateOf(t, []api.Command{{Op: api.Seed, N: 4}}))
+		}
 	}
 	for _, want := range []error{api.ErrDown, api.ErrFull, api.ErrToken, errSmoke, &api.Fault{Err: api.ErrFull, At: 3}} {
 		d := newShaky(nil)
@@ -616,6 +673,11 @@ func (d *sharing) Read(name string) ([]byte, error) {
 		return nil, api.ErrNone
 	}
 	return b, nil
+}
+
+func (d *sharing) Write(name string, data []byte) error {
+	d.all[name] = data
+	return nil
 }
 
 func (d *sharing) Append(name string, data []byte) error {

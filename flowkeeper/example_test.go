@@ -76,6 +76,7 @@ func ExampleEngine() {
 	e, err = flowkeeper.Open(d)
 	fmt.Println(e != nil, err)
 	fmt.Println(e.Query(run))
+	fmt.Println(e.Snapshot(), len(d.durable), size(d.durable) < 4000)
 	d.expect(0, isFull)
 	fmt.Println(e.Tick(1) == api.ErrFull, e.Seed(7) == api.ErrFull)
 	fmt.Println(e.Clock())
@@ -96,6 +97,40 @@ func ExampleEngine() {
 	// 3 6
 	// true <nil>
 	// {1 4 [5 7] [2 0]} <nil>
+	// <nil> 1 true
 	// true true
 	// 3 6
+}
+
+// What README.md shows of Serve.
+func ExampleServe() {
+	b, _ := flowkeeper.Encode(api.Flow{Deadline: 100, Nodes: []api.Node{
+		{Budget: 2, Close: 9, Base: 3, Cap: 9},
+		{Budget: 1, Close: 9, Base: 1, Cap: 1, After: []int{0}},
+	}})
+	e, _ := flowkeeper.Open(newShaky(nil))
+	_, _ = e.Submit(b)
+	task, _, _ := e.Poll()
+	_, _, _ = e.Fail(task.Token), e.Tick(3), e.Seed(6)
+	_, _, _ = e.Poll()
+	_ = e.Cancel(1)
+	commands := make(chan api.Command)
+	answers := flowkeeper.Serve(e, commands)
+	commands <- api.Command{Op: api.Submit, Data: string(b)}
+	a := <-answers
+	fmt.Println(a.Err, a.N)
+	commands <- api.Command{Op: api.Poll}
+	a = <-answers
+	fmt.Println(a.Task)
+	commands <- api.Command{Op: api.Query, N: 2}
+	a = <-answers
+	fmt.Println(a.Info)
+	close(commands)
+	_, more := <-answers
+	fmt.Println(more)
+	// Output:
+	// <nil> 2
+	// {2 0 1 3}
+	// {2 1 [3 1] [1 0]}
+	// false
 }

@@ -65,17 +65,17 @@ func (w *Wheel) Advance(ticks uint64) []api.Fired {
 
 // Engine is runs of flows, and a queue of what is ready. A nil one, and one that Open did not make, has no disk: it has no runs, and what would turn something answers ErrDown.
 type Engine struct {
-	log  logs.Log // of the calls that turned something
+	log  logs.Log // of the calls that turned something since the last Snapshot, and of what there was then
 	runs runs.Keeper
 }
 
-// Open opens the engine of a disk: the calls that are kept there are made once more (P11, P23).
+// Open opens the engine of a disk: what it was at the last Snapshot, and the calls that are kept behind that are made once more (P11, P23).
 func Open(d api.Disk) (*Engine, error) {
 	if d == nil {
 		return nil, api.ErrDown
 	}
 	e := &Engine{}
-	log, err := logs.Open(d, e.runs.Replay)
+	log, err := logs.Open(d, e.runs.Restore, e.runs.Replay)
 	if err != nil {
 		return nil, err
 	}
@@ -160,13 +160,10 @@ func (e *Engine) Timers() []api.Timer { return e.keeper().Timers() }
 // Queue: what is ready, in order (P22).
 func (e *Engine) Queue() []api.Task { return e.keeper().Queue() }
 
-// Snapshot says what the disk said, if that was an error (P24). It writes nothing yet (P27).
+// Snapshot: what is durable is written anew, and what was written ahead of that goes (P27).
 func (e *Engine) Snapshot() error {
 	if e == nil {
 		return api.ErrDown
 	}
-	return e.log.Err()
+	return e.log.Renew(e.runs.State())
 }
-
-// Serve does commands as they come, each with an answer, until there are no more (P28).
-func Serve(e *Engine, commands <-chan api.Command) <-chan api.Answer { return nil }

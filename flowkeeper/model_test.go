@@ -385,6 +385,7 @@ func (b *both) anyCall(r *rand.Rand, most int) {
 
 // P11 to P20, P22: engines of all kinds, against lists.
 func TestEnginesOfAllKinds(t *testing.T) {
+	t.Parallel()
 	ends := map[int]int{}
 	full := 0
 	for round := range uint64(400) {

@@ -206,7 +206,10 @@ func afresh(t *testing.T, calls []api.Command) desk {
 	return d
 }
 
-// make makes a call, and answers what it said; turned: it said that something turned.
+// snapshot is told as the other calls are, though no command is.
+const snapshot = -1000
+
+// make makes a call, and answers what it said; turned: it said that something turned, or was written anew.
 func (d desk) make(c api.Command) (answer string, turned bool, err error) {
 	var n uint64
 	var x api.Task
@@ -228,6 +231,8 @@ func (d desk) make(c api.Command) (answer string, turned bool, err error) {
 		err = d.e.Tick(c.N)
 	case api.Seed:
 		err = d.e.Seed(c.N)
+	case snapshot:
+		err = d.e.Snapshot()
 	}
 	return fmt.Sprint(n, x, ok, err), ok && err == nil, err
 }

@@ -1,10 +1,13 @@
 // Package flows: flows as bytes, what is wrong with a flow, and how long its nodes rest and its runs take.
 package flows
 
-import "flowkeeper/api"
+import (
+	"flowkeeper/api"
+	"flowkeeper/numbers"
+)
 
-// numbersOf: where a node's numbers stand, in the order in which they are written and read.
-func numbersOf(n *api.Node) [6]*int {
+// NumbersOf: where a node's numbers stand, in the order in which they are written and read.
+func NumbersOf(n *api.Node) [6]*int {
 	return [6]*int{&n.Budget, &n.Close, &n.Beat, &n.Base, &n.Cap, &n.Jitter}
 }
 
@@ -13,13 +16,13 @@ func Encode(f api.Flow) ([]byte, error) {
 	if err := Check(f); err != nil {
 		return nil, err
 	}
-	b := appendNumbers(nil, f.Deadline, len(f.Nodes))
+	b := numbers.Append(nil, f.Deadline, len(f.Nodes))
 	for _, n := range f.Nodes {
-		for _, p := range numbersOf(&n) {
-			b = appendNumbers(b, *p)
+		for _, p := range NumbersOf(&n) {
+			b = numbers.Append(b, *p)
 		}
-		b = appendNumbers(b, len(n.After))
-		b = appendNumbers(b, n.After...)
+		b = numbers.Append(b, len(n.After))
+		b = numbers.Append(b, n.After...)
 	}
 	return b, nil
 }
@@ -51,7 +54,7 @@ func read(b []byte) (f api.Flow, err error) {
 	f.Deadline = r.number()
 	f.Nodes = list(r, func() api.Node {
 		var n api.Node
-		for _, p := range numbersOf(&n) {
+		for _, p := range NumbersOf(&n) {
 			*p = r.number()
 		}
 		n.After = list(r, r.number)

@@ -1,19 +1,9 @@
 package flows
 
+import "flowkeeper/numbers"
+
 // A number that is read has so many bytes at the most.
 const mostBytes = 3
-
-// appendNumbers: the numbers, each seven bits at a time, behind b (P3). None is below 0.
-func appendNumbers(b []byte, numbers ...int) []byte {
-	for _, n := range numbers {
-		for n > 0x7f {
-			b = append(b, byte(n)|0x80)
-			n >>= 7
-		}
-		b = append(b, byte(n))
-	}
-	return b
-}
 
 // badAt is thrown when bytes are no flow: the place of the byte that is told.
 type badAt int
@@ -26,23 +16,12 @@ type reader struct {
 
 // number reads the next number.
 func (r *reader) number() int {
-	first, n := r.at, 0
-	for i := range mostBytes {
-		if r.at == len(r.b) {
-			panic(badAt(first))
-		}
-		c := r.b[r.at]
-		r.at++
-		n |= int(c&0x7f) << (7 * i)
-		if c > 0x7f {
-			continue
-		}
-		if c == 0 && i > 0 { // without this byte it would be the same number
-			panic(badAt(first))
-		}
-		return n
+	n, length, ok := numbers.Read(r.b[r.at:], mostBytes)
+	if !ok {
+		panic(badAt(r.at))
 	}
-	panic(badAt(first))
+	r.at += length
+	return int(n)
 }
 
 // end: there is nothing more.

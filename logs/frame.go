@@ -32,26 +32,35 @@ func appendFrame(b, record []byte) []byte {
 
 // frameLen: how long the frame is with which b begins. Where its head is cut off too, it is as long as the noughts that make up for it say.
 func frameLen(b []byte) int {
-	n := int(b[0])
-	if len(b) > 1 {
-		n |= int(b[1]) << 8
+	n := headLen + sealLen
+	for i, c := range b[:min(headLen, len(b))] {
+		n += int(c) << (8 * i)
 	}
-	return headLen + n + sealLen
+	return n
+}
+
+// cutFrame: the record of the frame with which b begins, and how long that frame is, which may be more than there is of it; whole: the record is as it was written.
+func cutFrame(b []byte) (record []byte, length int, whole bool) {
+	length = frameLen(b)
+	if length > len(b) {
+		return nil, length, false
+	}
+	end := length - sealLen
+	record = b[headLen:end:end] // no room to run over into what stands behind it
+	return record, length, seal(b[end:length]) == sealOf(record)
 }
 
 // tellAll tells the records of those frames that are whole, and answers how many bytes the last frame lacks.
 func tellAll(b []byte, tell func(record []byte)) (short int) {
 	for len(b) > 0 {
-		n := frameLen(b)
-		if n > len(b) {
-			return n - len(b)
+		record, length, whole := cutFrame(b)
+		if length > len(b) {
+			return length - len(b)
 		}
-		end := n - sealLen
-		record := b[headLen:end:end] // no room to run over into what stands behind it
-		if seal(b[end:n]) == sealOf(record) {
+		if whole {
 			tell(record)
 		}
-		b = b[n:]
+		b = b[length:]
 	}
 	return 0
 }

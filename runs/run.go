@@ -78,7 +78,7 @@ func (r *run) outcome() int {
 	return state
 }
 
-// end: the run has come to that state, and what is neither done nor dead is skipped (P19).
+// end: the run has come to that state, and what is neither done nor dead is skipped (P19). Nobody asks for its flow any more.
 func (r *run) end(state int) {
 	r.state = state
 	for i := range r.nodes {
@@ -86,5 +86,6 @@ func (r *run) end(state int) {
 		if n.state != api.Done && n.state != api.Dead {
 			n.state = api.Skipped
 		}
+		*n = node{state: n.state, tries: n.tries}
 	}
 }
